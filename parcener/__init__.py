@@ -1,0 +1,1 @@
+"""Parcener: estates divided among those who take them."""
