@@ -5,12 +5,10 @@ import random
 import unittest
 from itertools import permutations
 
+from kinds import OF_OTHER_KINDS, Equal
 from parcener import family
 from parcener.errors import BadFact, Circular
 from parcener.family import Family, is_amount, is_fact, is_name
-
-OF_OTHER_KINDS = [None, True, False, 0, 1, 1.0, "", "al", b"al", [], ["al"], (), ("al",), {}, {"al": 1}, {"al"},
-                  object(), int, len]
 
 
 def known(told, names):
@@ -57,15 +55,6 @@ def plain_fault(facts):
             return (BadFact, at)
     circular = [name for name, _ in links if name in descendants(links, name)] if facts else []
     return (Circular, min(circular)) if circular else None
-
-
-class Equal:
-    """Something of another kind that claims to be equal to everything."""
-
-    def __eq__(self, other):
-        return True
-
-    __hash__ = object.__hash__
 
 
 class Checks(unittest.TestCase):
