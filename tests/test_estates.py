@@ -6,7 +6,7 @@ import unittest
 from fractions import Fraction
 from itertools import permutations, product
 
-from kinds import OF_OTHER_KINDS, Equal
+from helper import OF_OTHER_KINDS, Equal
 from parcener import estates
 from parcener.errors import BadEstate, BadWill
 from parcener.estates import Estate, paid_debts, standing

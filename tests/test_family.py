@@ -5,7 +5,7 @@ import random
 import unittest
 from itertools import permutations
 
-from kinds import OF_OTHER_KINDS, Equal
+from helper import OF_OTHER_KINDS, Equal
 from parcener import family
 from parcener.errors import BadFact, Circular
 from parcener.family import Family, is_amount, is_fact, is_name

@@ -5,7 +5,7 @@ import unittest
 from fractions import Fraction
 from itertools import product
 
-from kinds import OF_OTHER_KINDS, Equal
+from helper import OF_OTHER_KINDS, Equal
 from parcener import rules
 from parcener.errors import BadRules
 from parcener.family import Family

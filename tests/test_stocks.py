@@ -5,6 +5,7 @@ import random
 import unittest
 from fractions import Fraction
 
+from helper import Plain, born, died, ladder, random_facts, whole
 from parcener import stocks
 from parcener.family import Family
 from parcener.rules import Rules
@@ -12,100 +13,6 @@ from parcener.stocks import parts_of, rows_of, shares_of
 
 STOCKS, HEADS = Rules(), Rules(mode="heads")
 BOTH = (STOCKS, HEADS)
-
-
-def born(text):
-    """Facts of children: "a: b c" tells that b and c are children of a; commas part such texts."""
-    facts = []
-    for line in text.split(","):
-        parent, children = line.split(":")
-        facts += [("child", child, parent.strip()) for child in children.split()]
-    return facts
-
-
-def died(names, day=1):
-    """Facts that all these died on a day."""
-    return [("died", name, day) for name in names.split()]
-
-
-def whole(shares):
-    """Shares as fractions of Python's library."""
-    return {name: Fraction(*share) for name, share in shares.items()}
-
-
-class Plain:
-    """Points 3.2 to 4.4 as their words say them, from facts that are in order."""
-
-    def __init__(self, facts, rules, dead):
-        self.links = {fact[1:] for fact in facts if fact[0] == "child"}
-        self.days = {fact[1]: fact[2] for fact in facts if fact[0] == "died"}
-        self.renounced = {fact[1] for fact in facts if fact[0] == "renounced"}
-        self.rules, self.dead = rules, dead
-
-    def survives(self, name):
-        last = self.days[self.dead] + self.rules.days
-        return not (name == self.dead or name in self.renounced or name in self.days and self.days[name] <= last)
-
-    def below(self, names):
-        return {child for child, parent in self.links if parent in names}
-
-    def heads(self, name):
-        generations = [self.below([name])]
-        while generations[-1]:
-            generations.append(self.below(generations[-1]))
-        alive = [persons for persons in generations if any(map(self.survives, persons))]
-        return (alive + generations)[0]
-
-    def parts(self, node):
-        name, row = node
-        if row > 0:
-            return sorted((parent, row - 1) for child, parent in self.links if child == name)
-        heads = row == 0 and self.rules.mode == "heads"
-        return sorted((person, -1) for person in (self.heads(name) if heads else self.below([name])))
-
-    def takes(self, node):
-        return node[1] <= 0 and self.survives(node[0])
-
-    def rows(self, node, known=()):
-        """The rows that are known, and behind them what this node needs besides."""
-        if node in [row[0] for row in known]:
-            return known
-        if self.takes(node):
-            return known + ((node, "takes", (), ()),)
-        for part in self.parts(node):
-            known = self.rows(part, known)
-        kinds = {row[0]: row[1] for row in known}
-        live = tuple(part for part in self.parts(node) if kinds[part] != "gone")
-        gone = tuple(part for part in self.parts(node) if kinds[part] == "gone")
-        return known + ((node, "divides" if live else "gone", live, gone),)
-
-    def shares(self, node):
-        """What each one takes by a node that is not gone."""
-        if self.takes(node):
-            return {node[0]: Fraction(1)}
-        live = [part for part in self.parts(node) if self.rows(part)[-1][1] != "gone"]
-        found = {}
-        for part in live:
-            for name, share in self.shares(part).items():
-                found[name] = found.get(name, 0) + share / len(live)
-        return found
-
-
-def random_facts(dice):
-    """Facts that are in order, and the dead person of whom they tell."""
-    names = dice.sample("abcdefghij", dice.randint(2, 10))
-    facts = []
-    for at in range(1, len(names)):
-        above = dice.sample(names[:at], min(at, dice.choice([0, 1, 1, 2, 2])))
-        facts += [("child", names[at], parent) for parent in above]
-    dead = dice.choice(names)
-    likely = dice.choice([0.2, 0.5, 0.8, 0.95])
-    for name in names:
-        if name == dead or dice.random() < likely:
-            facts.append(("died", name, dice.randint(1, 4)))
-        elif dice.random() < 0.1:
-            facts.append(("renounced", name))
-    return dice.sample(facts, len(facts)), dead
 
 
 class Checks(unittest.TestCase):
@@ -438,23 +345,15 @@ class Shares(Checks):
 
 
 class Large(Checks):
-    def ladder(self, many, up):
-        """Facts of generations of two, each one a child of both of the generation before it."""
-        facts = []
-        for at in range(many):
-            above, below = (at + 1, at) if up else (at, at + 1)
-            facts += [("child", f"{one}{below}", f"{two}{above}") for one in "ab" for two in "ab"]
-        return facts
-
     def test_many_ways_down(self):
-        facts = self.ladder(17, up=False) + [("died", f"{one}{at}", 1) for one in "ab" for at in range(17)]
+        facts = ladder(17, up=False) + [("died", f"{one}{at}", 1) for one in "ab" for at in range(17)]
         for book in BOTH:
             rows = rows_of(Family(facts), book, "a0", ("a0", 0))
             self.assertEqual(len(rows), 35 if book is STOCKS else 3)
             self.assertEqual(shares_of(rows, ("a0", 0)), {"a17": (1, 2), "b17": (1, 2)})
 
     def test_many_ways_up(self):
-        facts = self.ladder(29, up=True) + [("died", "a0", 1)]
+        facts = ladder(29, up=True) + [("died", "a0", 1)]
         for book in BOTH:
             rows = rows_of(Family(facts), book, "a0", ("a0", 29))
             self.assertEqual(len(rows), 59)
